@@ -1,0 +1,1 @@
+"""Ledgerproof: which claims about balances follow from the transaction types alone?"""
