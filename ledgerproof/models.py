@@ -36,6 +36,14 @@ def terms_of(constraint):
     return constraint[1] if constraint[0] == "sum" else constraint[2]
 
 
+def kind_named(model, name):
+    """The transaction type with this name, or None."""
+    for kind in model[2]:
+        if kind[0] == name:
+            return kind
+    return None
+
+
 def entry_of(entries, account):
     """The number of the entry for the account, 0 if there is none."""
     for name, number in entries:

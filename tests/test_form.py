@@ -31,6 +31,78 @@ INTERFACE = {
         "split_text": "(text)",
         "filled": "(texts, values)",
     },
+    "reader": {
+        "read_model": "(text)",
+        "read_script": "(model, text)",
+        "read_claim": "(model, text)",
+        "read_constraint": "(model, text)",
+        "read_sector": "(model, text)",
+    },
+    "printer": {
+        "show_sector": "(sector)",
+        "show_constraint": "(constraint)",
+        "show_claim": "(claim)",
+        "show_script": "(script)",
+        "show_model": "(model)",
+    },
+    "ledgers": {
+        "problem": "(model, ledger)",
+        "balances": "(model, ledger)",
+        "value": "(model, ledger, constraint)",
+        "satisfies": "(model, ledger, constraint)",
+        "refutes": "(model, ledger, claim)",
+        "minimized": "(model, ledger, claim)",
+    },
+    "journals": {
+        "Journal": "(model, *, participants=(), transactions=())",
+    },
+    "obligations": {
+        "obligations": "(model, claim)",
+        "unit_transactions": "(model, profile)",
+        "system_of": "(model, claim, number)",
+        "parts": "(model, claim)",
+        "aggregated": "(model, claim)",
+        "contributions": "(model, constraint)",
+    },
+    "flows": {
+        "flows": "(model, ledger, *, apart=None)",
+        "made": "(model, profile, amounts)",
+        "paired": "(model, ledger, *, apart=None)",
+    },
+    "systems": {
+        "multiplier_defect": "(system, multipliers)",
+        "amount_defect": "(system, amounts)",
+        "slacks": "(system, multipliers)",
+        "totals": "(system, amounts)",
+    },
+    "dictionaries": {
+        "start": "(system)",
+        "choice": "(dictionary)",
+        "pivot": "(dictionary, variable, column)",
+        "path": "(dictionary)",
+        "solve": "(dictionary)",
+        "multipliers": "(dictionary)",
+        "amounts": "(dictionary)",
+        "wrong_variable": "(system, dictionary)",
+        "evidence": "(system, dictionary)",
+    },
+}
+
+METHODS_OF = {
+    ("journals", "Journal"): {
+        "add": "(self, participants, transactions)",
+        "enter": "(self, *names)",
+        "post": "(self, name, payer, payee, *, amount=1)",
+        "history": "(self, account)",
+        "by_type": "(self)",
+        "value": "(self, constraint)",
+        "satisfies": "(self, constraint)",
+        "refutes": "(self, claim)",
+        "minimized": "(self, claim)",
+        "clone": "(self)",
+        "__len__": "(self)",
+        "__iter__": "(self)",
+    },
 }
 
 LIBRARY = {"heapq", "math", "itertools", "collections"}
@@ -91,6 +163,14 @@ class InterfaceTest(unittest.TestCase):
                     found = getattr(module, function)
                     self.assertEqual(found.__module__, module.__name__)
                     self.assertEqual(str(inspect.signature(found)), arguments)
+
+
+    def test_methods_stand_in_their_classes_with_their_arguments(self):
+        for (name, owner), methods in METHODS_OF.items():
+            found = vars(getattr(importlib.import_module("ledgerproof." + name), owner))
+            for method, arguments in methods.items():
+                with self.subTest(owner=owner, method=method):
+                    self.assertEqual(str(inspect.signature(found[method])), arguments)
 
 
 class FilesTest(unittest.TestCase):
