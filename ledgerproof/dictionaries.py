@@ -1,9 +1,8 @@
 """Dictionaries, and the method that finds the least multipliers of a system or valid amounts of it."""
 
-from math import gcd
-
+from ledgerproof.divisors import over_one_scale, without_divisor
 from ledgerproof.systems import definitions
-from ledgerproof.tables import chosen, dictionary_of, exchanged, over_one_scale, table_of
+from ledgerproof.tables import chosen, dictionary_of, exchanged, table_of
 
 
 def start(system):
@@ -66,7 +65,7 @@ def amounts(dictionary):
             fractions.append((-above, below))
         else:
             fractions.append((0, 1))
-    return _without_divisor(over_one_scale(fractions)[1])
+    return without_divisor(over_one_scale(fractions)[1])
 
 
 def wrong_variable(system, dictionary):
@@ -89,13 +88,6 @@ def evidence(system, dictionary):
     if stuck == []:
         return "optimal" if _has_positive_columns(lines) else None
     return "infeasible" if any([max(numbers[1:], default=0) <= 0 for numbers in stuck]) else None
-
-
-def _without_divisor(numbers):
-    common = 0
-    for number in numbers:
-        common = gcd(common, number)
-    return tuple([number // common for number in numbers]) if common > 0 else tuple(numbers)
 
 
 def _is_right(definition, scale, numbers, used):

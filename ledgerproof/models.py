@@ -1,5 +1,6 @@
 """Models: the premises of claims, changes by scripts, conserved accounts."""
 
+from ledgerproof.errors import UnknownClaim
 from ledgerproof.sectors import profiles
 
 
@@ -42,6 +43,14 @@ def kind_named(model, name):
         if kind[0] == name:
             return kind
     return None
+
+
+def claim_named(model, name):
+    """The claim of the model with this name."""
+    for other, claim in model[4]:
+        if other == name:
+            return claim
+    raise UnknownClaim(name)
 
 
 def entry_of(entries, account):

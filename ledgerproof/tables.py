@@ -4,7 +4,7 @@ A table is a pair of the nonbasic variables and of one line for each variable: a
 list of integers, the scale times the constant followed by the scale times the coefficients.
 """
 
-from math import gcd, lcm
+from ledgerproof.divisors import common_divisor, lowest, over_one_scale
 
 
 def table_of(dictionary):
@@ -16,16 +16,8 @@ def table_of(dictionary):
 def dictionary_of(table):
     """The dictionary of a table, with fractions in lowest terms."""
     nonbasic, lines = table
-    rows = [[_fraction(number, scale) for number in numbers] for scale, numbers in lines]
+    rows = [[lowest(number, scale) for number in numbers] for scale, numbers in lines]
     return (nonbasic, tuple([row[0] for row in rows]), tuple([tuple(row[1:]) for row in rows]))
-
-
-def over_one_scale(fractions):
-    """The least scale whose products with the fractions are integers, and these products."""
-    scale = 1
-    for _, below in fractions:
-        scale = lcm(scale, below)
-    return (scale, [above * (scale // below) for above, below in fractions])
 
 
 def chosen(table):
@@ -44,11 +36,6 @@ def exchanged(table, variable, column):
     pivot_line = lines[variable]
     swapped = tuple([variable if k == column else other for k, other in enumerate(nonbasic)])
     return (swapped, [_replaced(line, pivot_line, column + 1) for line in lines])
-
-
-def _fraction(number, scale):
-    common = gcd(number, scale)
-    return (number // common, scale // common)
 
 
 def _column(lines, numbers):
@@ -78,14 +65,12 @@ def _replaced(line, pivot_line, place):
     new_scale = scale * pivot
     changed = [number * pivot - factor * other for number, other in zip(numbers, pivot_numbers)]
     changed[place] = factor * pivot_scale
-    return _lowest(new_scale, changed)
+    return _reduced(new_scale, changed)
 
 
-def _lowest(scale, numbers):
+def _reduced(scale, numbers):
     """The line divided by its greatest common divisor, with a positive scale."""
-    common = scale
-    for number in numbers:
-        common = gcd(common, number)
+    common = common_divisor((scale, *numbers))
     if scale < 0:
         common = -common
     return (scale // common, [number // common for number in numbers])

@@ -86,6 +86,43 @@ INTERFACE = {
         "wrong_variable": "(system, dictionary)",
         "evidence": "(system, dictionary)",
     },
+    "elimination": {
+        "first_inequalities": "(system)",
+        "wrong_inequality": "(system, inequalities)",
+        "eliminated": "(inequalities, number)",
+        "levels": "(system)",
+        "by_elimination": "(system)",
+    },
+    "certificates": {
+        "first_defect": "(model, claim, certificate)",
+        "used": "(model, claim, certificate)",
+    },
+    "verdicts": {
+        "decide": "(model, claim)",
+        "statuses_of": "(model)",
+        "confirmed": "(model, claim, verdict)",
+    },
+    "bounds": {
+        "raised": "(claim, constraint, fraction)",
+        "bound": "(model, claim, constraint)",
+    },
+    "cores": {
+        "core": "(model, name)",
+        "needed": "(model, claim)",
+        "causes": "(model, claim)",
+        "idle": "(model, claim)",
+    },
+    "desks": {
+        "Desk": "(model)",
+    },
+    "questions": {
+        "read_question": "(model, texts, values=())",
+        "show_question": "(question)",
+    },
+    "answers": {
+        "answer": "(model, question)",
+        "journal_answer": "(journal, question)",
+    },
 }
 
 METHODS_OF = {
@@ -103,6 +140,21 @@ METHODS_OF = {
         "__len__": "(self)",
         "__iter__": "(self)",
     },
+    ("desks", "Desk"): {
+        "apply": "(self, text)",
+        "undo": "(self, *, steps=1)",
+        "redo": "(self, *, steps=1)",
+        "tried": "(self, first, second)",
+        "statuses": "(self)",
+        "source": "(self)",
+        "clone": "(self)",
+    },
+}
+
+# Class methods and properties of the interface, which stand in the class as objects of these kinds.
+OTHERS_OF = {
+    ("journals", "Journal"): {"model": property, "ledger": property},
+    ("desks", "Desk"): {"opened": classmethod, "model": property, "undoable": property, "redoable": property},
 }
 
 LIBRARY = {"heapq", "math", "itertools", "collections"}
@@ -149,7 +201,7 @@ def bound_names(tree):
             found.add(node.id)
         elif isinstance(node, ast.arg):
             found.add(node.arg)
-        elif isinstance(node, (ast.FunctionDef, ast.ClassDef, ast.alias)):
+        elif isinstance(node, (ast.FunctionDef, ast.ClassDef, ast.alias, ast.MatchAs, ast.MatchStar)):
             found.add(node.name)
     return found
 
@@ -164,13 +216,21 @@ class InterfaceTest(unittest.TestCase):
                     self.assertEqual(found.__module__, module.__name__)
                     self.assertEqual(str(inspect.signature(found)), arguments)
 
-
     def test_methods_stand_in_their_classes_with_their_arguments(self):
         for (name, owner), methods in METHODS_OF.items():
             found = vars(getattr(importlib.import_module("ledgerproof." + name), owner))
             for method, arguments in methods.items():
                 with self.subTest(owner=owner, method=method):
                     self.assertEqual(str(inspect.signature(found[method])), arguments)
+
+    def test_class_methods_and_properties_stand_in_their_classes(self):
+        for (name, owner), others in OTHERS_OF.items():
+            found = vars(getattr(importlib.import_module("ledgerproof." + name), owner))
+            for other, kind in others.items():
+                with self.subTest(owner=owner, other=other):
+                    self.assertIsInstance(found[other], kind)
+        opened = importlib.import_module("ledgerproof.desks").Desk.opened
+        self.assertEqual(str(inspect.signature(opened)), "(text)")
 
 
 class FilesTest(unittest.TestCase):

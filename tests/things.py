@@ -118,3 +118,43 @@ def system(source, most_units=6, most_rows=4, size=4):
         tuple(source.randint(-size, size) for _ in range(units)),
         tuple(tuple(source.randint(-size, size) for _ in range(units)) for _ in range(rows)),
     )
+
+
+def people(source, sectors):
+    """A sector expression to which some profile belongs more often than not."""
+    choices = [("all",), *[("sector", name) for name in sectors] * 2, *[("not", ("sector", name)) for name in sectors]]
+    if source.random() < 0.15:
+        return sector(source, sectors, 2)
+    return source.choice(choices)
+
+
+def small_constraint(source, model, form=None, relation=None, most=2):
+    """A constraint with small numbers, of the form and with the relation that are told, if they are."""
+    form = form or source.choice(("sum", "each"))
+    relation = relation or source.choice((">=", ">=", "="))
+    numbers = [source.choice((1, 1, 1, -1, 2, -2, 3)) for _ in range(source.randint(1, most))]
+    if form == "sum":
+        terms = [(one, source.choice(model[1]), people(source, model[0])) for one in numbers]
+        return ("sum", tuple(terms), relation)
+    return ("each", people(source, model[0]), tuple((one, source.choice(model[1])) for one in numbers), relation)
+
+
+def small_claim(source, model, premises=3, form=None, relation=None):
+    own = [small_constraint(source, model) for _ in range(source.randint(0, premises))]
+    return (tuple(own), small_constraint(source, model, form, relation))
+
+
+def small_model(source, most=(2, 2, 3, 2, 0)):
+    """A model with small numbers, in which claims hold and are refuted about equally often."""
+    sectors = ("a", "b", "c")[:source.randint(0, most[0])]
+    accounts = ("x", "y", "z")[:source.randint(1, most[1])]
+    types = []
+    for name in ("t", "u", "v", "w", "s")[:source.randint(0, most[2])]:
+        first, second = source.choice(accounts), source.choice(accounts)
+        payer_entries = ((first, -source.choice((1, 1, 2, 3))),) if source.random() < 0.6 else ()
+        payee_entries = ((second, source.choice((1, 1, 2, 3))),) if source.random() < 0.9 else ()
+        types.append((name, people(source, sectors), payer_entries, people(source, sectors), payee_entries))
+    bare = (sectors, accounts, (), (), ())
+    assumptions = [(name, small_constraint(source, bare)) for name in ("p", "q", "r")[:source.randint(0, most[3])]]
+    claims = [(name, small_claim(source, bare)) for name in "cdefghij"[:source.randint(0, most[4])]]
+    return (sectors, accounts, tuple(types), tuple(assumptions), tuple(claims))

@@ -1,4 +1,4 @@
-"""The grammar of [42] as rules, and which tokens can go on behind the beginning of a text.
+"""The grammar of [42] and [180] as rules, and which tokens can go on behind the beginning of a text.
 
 This is written without regard to how the program reads: the rules stand here as the document has them, and what
 can go on is found by keeping all ways in which the tokens can be read side by side.
@@ -26,6 +26,9 @@ statement = "assume" name ":" constraint ";" | "claim" name ":" claim ";" | "dro
 script = | statement script
 names = name | name "," names
 model = "sectors" ";" "accounts" names ";" script | "sectors" names ";" "accounts" names ";" script
+question = "profiles" sector0 | "distinguish" sector0 "," sector0 | "conserved" | "obligations" claim | "decide" claim
+question = "bound" claim "by" constraint | "statuses" | "core" name | "verdict" name | "evaluate" constraint
+question = "refutes" claim | "minimize" claim | "types"
 """
 
 SECTOR_RULES = """
@@ -106,7 +109,11 @@ def expected(start, tokens):
 
 def refused_at(start, text):
     """The place of the first token that cannot go on, or None if the text is accepted."""
-    tokens = split_text(text)
+    return refused_among(start, split_text(text))
+
+
+def refused_among(start, tokens):
+    """The same for tokens."""
     told = expected(start, tokens)
     if len(told) == len(tokens) + 1:
         return None
