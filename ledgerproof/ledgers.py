@@ -61,7 +61,7 @@ def minimized(model, ledger, claim):
     remaining = list(range(len(ledger[1])))
     while True:
         kept = []
-        for number in remaining:
+        for number in list(remaining):
             if not _left_out(premises, conclusion, number):
                 kept.append(number)
         if kept == remaining:
